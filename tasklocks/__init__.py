@@ -1,0 +1,1 @@
+"""Tasks with deadlines and locks, on one processor."""
