@@ -1,11 +1,16 @@
-"""One set of tasks, its locks, and who works in each tick."""
+"""One set of tasks, its locks, who works in each tick, and what is known of it."""
 
-from tasklocks.steps import is_take, lock_of
-from tasklocks.tasks import MOST_TICKS, Job, Task, task_is_right
+from tasklocks.steps import LOCKS, is_take, lock_of
+from tasklocks.tasks import MOST_TICKS, NEVER, Job, Task, task_is_right
 
 MOST_TASKS = 32
 MOST_TICKS_A_RUN = 100000
 NOBODY_WORKED = 255
+
+NO_JOB = 0
+ABLE_WITHOUT_LOCK = 1
+ABLE_WITH_LOCK = 2
+NOT_ABLE = 3
 
 
 class Scheduler:
@@ -42,28 +47,69 @@ class Scheduler:
         end = self.now + n
         while self.now < end:
             self.let_jobs_come()
+            self.tell_late()
             worker = self.find_worker()
             ticks = self.ticks_alike(worker, end)
+            # Where this work was the job's last it is done at the next tick, so the time goes on first.
+            self.now += ticks
             if worker is None:
                 answer.extend([NOBODY_WORKED] * ticks)
             else:
                 answer.extend([worker.number] * ticks)
                 self.work(worker, ticks)
-            self.now += ticks
         return answer
+
+    def known(self, i, which):
+        if not self.is_task(i):
+            return -1
+        known = self.tasks[i].known()
+        if which < 0 or which >= len(known):
+            return -1
+        return known[which]
+
+    def state(self, i):
+        if not self.is_task(i):
+            return -1
+        if i not in self.jobs:
+            return NO_JOB
+        if not self.is_able(self.jobs[i]):
+            return NOT_ABLE
+        if any([owner == i for owner in self.owners.values()]):
+            return ABLE_WITH_LOCK
+        return ABLE_WITHOUT_LOCK
+
+    def owner(self, lock):
+        """The number of the task whose job has the lock, and 1; 0 for nobody."""
+        if lock < 0 or lock >= LOCKS:
+            return -1
+        if lock not in self.owners:
+            return 0
+        return self.owners[lock] + 1
+
+    def is_task(self, i):
+        return 0 <= i < len(self.tasks)
 
     def let_jobs_come(self):
         for number, task in enumerate(self.tasks):
             if task.comes_at == self.now:
                 task.pass_coming()
-                if number not in self.jobs:
-                    self.jobs[number] = Job(number, self.urgency_of_new_job(task), task.steps)
+                if number in self.jobs:
+                    task.jobs_left_out += 1
+                else:
+                    self.jobs[number] = self.new_job(number, task)
 
-    def urgency_of_new_job(self, task):
-        """The urgency of a job of this task that comes now: the greater the number, the more urgent."""
-        if self.by_deadline:
-            return -(self.now + task.deadline)
-        return task.rank
+    def new_job(self, number, task):
+        """A job of this task that comes now; the greater the number of its urgency, the more urgent."""
+        deadline = self.now + task.deadline
+        own_urgency = -deadline if self.by_deadline else task.rank
+        return Job(number, task.steps, self.now, deadline, own_urgency)
+
+    def tell_late(self):
+        for job in self.jobs.values():
+            if job.late_at <= self.now:
+                job.late_at = NEVER
+                task = self.tasks[job.number]
+                task.missed_deadlines += 1
 
     def find_worker(self):
         """Go through the steps that take no time, until a job is to work or none is able."""
@@ -121,10 +167,11 @@ class Scheduler:
         job.end_step()
         if job.is_done():
             self.jobs.pop(job.number)
+            self.tasks[job.number].count_done(self.now - job.came_at)
 
     def ticks_alike(self, worker, end):
-        """For how many ticks from now on nothing can change who works: no job comes, and no step ends before."""
-        stop = min([end] + [task.comes_at for task in self.tasks])
+        """For how many ticks from now on there is only this work: no job comes or is late, and no step ends before."""
+        stop = min([end] + [task.comes_at for task in self.tasks] + [job.late_at for job in self.jobs.values()])
         if worker is None:
             return stop - self.now
         return min(stop - self.now, worker.work_left())

@@ -1,4 +1,4 @@
-"""A task, as it was told, and a job of one, as far as it has come."""
+"""A task, as it was told, with what is counted of its jobs, and a job of one, as far as it has come."""
 
 from tasklocks.steps import is_work, steps_are_right
 
@@ -24,6 +24,10 @@ class Task:
         self.rank = rank
         self.steps = steps
         self.comes_at = first
+        self.jobs_done = 0
+        self.missed_deadlines = 0
+        self.jobs_left_out = 0
+        self.longest = 0
 
     def pass_coming(self):
         """Look ahead to the coming after this one."""
@@ -32,12 +36,24 @@ class Task:
         else:
             self.comes_at += self.period
 
+    def count_done(self, ticks):
+        """One more job is done, so many ticks behind its coming."""
+        self.jobs_done += 1
+        self.longest = max(self.longest, ticks)
+
+    def known(self):
+        """What rt_known tells, in the order of its numbers."""
+        return (self.jobs_done, self.missed_deadlines, self.jobs_left_out, self.longest)
+
 
 class Job:
-    def __init__(self, number, own_urgency, steps):
+    def __init__(self, number, steps, came_at, deadline, own_urgency):
         self.number = number
-        self.own_urgency = own_urgency
         self.steps = steps
+        self.came_at = came_at
+        # The tick in which it is to be told late; told once, it is never again.
+        self.late_at = deadline
+        self.own_urgency = own_urgency
         self.place = 0
         self.worked = 0
         self.waits_for = None

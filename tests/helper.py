@@ -3,6 +3,7 @@
 from tasklocks.processor import answers
 
 CLEAR = [1]
+NOW = [5]
 INT_MIN = -2147483648
 INT_MAX = 2147483647
 
@@ -17,6 +18,18 @@ def task(steps, first=0, period=0, deadline=100, rank=0):
 
 def run(n):
     return [4, n]
+
+
+def known(i, which):
+    return [6, i, which]
+
+
+def state(i):
+    return [7, i]
+
+
+def owner(lock):
+    return [8, lock]
 
 
 def take(lock):
@@ -53,11 +66,34 @@ def answer_rows(*calls):
     return rows[1:]
 
 
+def rows_behind(tasks, calls, by_deadline=0):
+    """What these calls answer once these tasks were told."""
+    rows = answer_rows(order(by_deadline), *tasks, *calls)
+    told = 1 + len(tasks)
+    if rows[:told] != [[0]] + [[number] for number in range(len(tasks))]:
+        raise ValueError(f"a task was refused: {rows[:told]}")
+    return rows[told:]
+
+
 def worked(n, tasks, by_deadline=0):
     """Who worked in each of the first n ticks."""
-    rows = answer_rows(order(by_deadline), *tasks, run(n))
-    if rows[:-1] != [[0]] + [[number] for number in range(len(tasks))]:
-        raise ValueError(f"a task was refused: {rows[:-1]}")
-    if rows[-1][0] != 0:
+    row = rows_behind(tasks, [run(n)], by_deadline)[0]
+    if row[0] != 0:
         raise ValueError("rt_run was refused")
-    return rows[-1][1:]
+    return row[1:]
+
+
+def asked_behind(ticks, tasks, calls, by_deadline=0):
+    """The one number that each of these calls answers behind so many ticks."""
+    rows = rows_behind(tasks, [run(ticks)] + calls, by_deadline)[1:]
+    if any(len(row) != 1 for row in rows):
+        raise ValueError(f"more than one number was answered: {rows}")
+    return [row[0] for row in rows]
+
+
+def asked_over_time(call, ticks, tasks, by_deadline=0):
+    """The one number that this call answers ahead of tick 0, and behind each of so many ticks run one by one."""
+    rows = rows_behind(tasks, [call] + [run(1), call] * ticks, by_deadline)[::2]
+    if any(len(row) != 1 for row in rows):
+        raise ValueError(f"more than one number was answered: {rows}")
+    return [row[0] for row in rows]

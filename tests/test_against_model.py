@@ -1,16 +1,20 @@
-"""rt_run beside a slow model, which goes tick by tick and follows the document sentence by sentence."""
+"""rt_run and what is asked behind it beside a slow model, which goes tick by tick, sentence by sentence."""
 
 import random
 import unittest
 
-from tests.helper import answer_rows, give, order, run, take, task
+from tasklocks.processor import answers
+from tests.helper import CLEAR, NOW, give, joined, known, order, owner, run, split, state, take, task
 
 
 class ModelJob:
-    def __init__(self, number, own, steps):
+    def __init__(self, number, came, deadline, own, steps):
         self.number = number
+        self.came = came
+        self.deadline = deadline
         self.own = own
         self.steps = list(steps)
+        self.told_late = False
         self.has = set()
         self.waits_for = None
 
@@ -21,6 +25,10 @@ class Model:
         self.told = told
         self.jobs = []
         self.tick = 0
+        # For each task the ticks from coming to end of its jobs done, its missed deadlines and its jobs left out.
+        self.lengths = [[] for _ in told]
+        self.missed = [0 for _ in told]
+        self.left_out = [0 for _ in told]
 
     def owner(self, lock):
         owners = [job for job in self.jobs if lock in job.has]
@@ -33,17 +41,32 @@ class Model:
             found += [other for other in self.jobs if other.waits_for in one.has and other not in found]
         return found
 
+    def able(self):
+        return [job for job in self.jobs if job.waits_for is None or self.owner(job.waits_for) is None]
+
     def chosen(self):
-        able = [job for job in self.jobs if job.waits_for is None or self.owner(job.waits_for) is None]
+        able = self.able()
         return max(able, key=lambda job: (max(one.own for one in self.waiting_for(job)), -job.number), default=None)
 
     def come(self):
         for number, (first, period, deadline, rank, steps) in enumerate(self.told):
             since = self.tick - first
             comes = since == 0 or (period > 0 and since > 0 and since % period == 0)
-            if comes and number not in [job.number for job in self.jobs]:
+            if comes and number in [job.number for job in self.jobs]:
+                self.left_out[number] += 1
+            elif comes:
                 own = -(self.tick + deadline) if self.by_deadline else rank
-                self.jobs.append(ModelJob(number, own, steps))
+                self.jobs.append(ModelJob(number, self.tick, self.tick + deadline, own, steps))
+
+    def tell_late(self):
+        for job in self.jobs:
+            if job.deadline <= self.tick and not job.told_late:
+                job.told_late = True
+                self.missed[job.number] += 1
+
+    def done(self, job, tick):
+        self.jobs.remove(job)
+        self.lengths[job.number].append(tick - job.came)
 
     def worker(self):
         while True:
@@ -55,7 +78,7 @@ class Model:
                 job.has.remove(lock)
                 job.steps.pop(0)
                 if not job.steps:
-                    self.jobs.remove(job)
+                    self.done(job, self.tick)
             elif self.owner(lock) is not None:
                 job.waits_for = lock
             else:
@@ -65,6 +88,7 @@ class Model:
 
     def next_tick(self):
         self.come()
+        self.tell_late()
         job = self.worker()
         self.tick += 1
         if job is None:
@@ -73,8 +97,40 @@ class Model:
         if job.steps[0] == 0:
             job.steps.pop(0)
         if not job.steps:
-            self.jobs.remove(job)
+            self.done(job, self.tick)
         return job.number
+
+    def is_task(self, i):
+        return i in range(len(self.told))
+
+    def known(self, i, which):
+        if not self.is_task(i) or which not in range(4):
+            return -1
+        lengths = self.lengths[i]
+        return [len(lengths), self.missed[i], self.left_out[i], max(lengths, default=0)][which]
+
+    def state(self, i):
+        if not self.is_task(i):
+            return -1
+        for job in self.jobs:
+            if job.number == i:
+                return (2 if job.has else 1) if job in self.able() else 3
+        return 0
+
+    def answer(self, call):
+        number, *values = call
+        if number == 4:
+            return [0] + [self.next_tick() for _ in range(values[0])]
+        if number == 5:
+            return [self.tick]
+        if number == 6:
+            return [self.known(*values)]
+        if number == 7:
+            return [self.state(*values)]
+        if values[0] not in range(16):
+            return [-1]
+        job = self.owner(values[0])
+        return [0 if job is None else job.number + 1]
 
 
 def some_steps(source, locks):
@@ -101,18 +157,32 @@ def some_task(source, locks):
     return first, period, source.randint(1, 30), source.randint(0, 5), some_steps(source, locks)
 
 
+def some_asked(source, tasks, locks):
+    """Everything that can be asked, and a little beyond, in any order."""
+    asked = [NOW]
+    asked += [known(i, which) for i in range(-1, tasks + 1) for which in range(4)]
+    asked += [known(source.randint(0, tasks), source.choice([-1, 4]))]
+    asked += [state(i) for i in range(-1, tasks + 1)]
+    asked += [owner(lock) for lock in [-1] + list(range(locks + 1)) + [15, 16]]
+    source.shuffle(asked)
+    return asked
+
+
 class AgainstModel(unittest.TestCase):
     def compare(self, seed):
         source = random.Random(seed)
         locks = source.choice([1, 2, 3, 5])
         told = [some_task(source, locks) for _ in range(source.randint(1, 9))]
         by_deadline = source.randint(0, 1)
-        runs = [source.randint(0, 40) for _ in range(4)]
+        ahead = [CLEAR, order(by_deadline)]
+        ahead += [task(steps, first, period, deadline, rank) for first, period, deadline, rank, steps in told]
+        calls = []
+        for longest in (0, 3, 40, 40, 40):
+            calls += [run(source.randint(0, longest))] + some_asked(source, len(told), locks)
         model = Model(by_deadline, told)
-        expected = [[0] + [model.next_tick() for _ in range(n)] for n in runs]
-        calls = [task(steps, first, period, deadline, rank) for first, period, deadline, rank, steps in told]
-        rows = answer_rows(order(by_deadline), *calls, *[run(n) for n in runs])
-        self.assertEqual(rows[1 + len(told):], expected, f"seed {seed}: {by_deadline} {told}")
+        expected = [model.answer(call) for call in calls]
+        rows = split(answers(joined(ahead + calls)))[len(ahead):]
+        self.assertEqual(rows, expected, f"seed {seed}: {by_deadline}, {told}, {calls}")
 
     def test_many_sets_of_tasks(self):
         for seed in range(600):
